@@ -1,0 +1,1 @@
+"""Trees told in several ways, each led to each other."""
