@@ -3,8 +3,10 @@ import unittest
 
 import trees
 from treeways.brackets import is_brackets, mirrored
+from treeways.counting import place_of
 from treeways.errors import NoTree, WayError
 from treeways.forms import counts_of, depths_of, parents_of, steps_of
+from treeways.triangles import triangles_of
 
 WRONG_TEXTS = [
     "", " ", "(", ")", ")(", "(()", "())", "()()", "(())()", "()(())", "())(", "(()))(", "((())", "((()))))",
@@ -62,7 +64,7 @@ class Mirrored(unittest.TestCase):
 
 class RefusedTexts(unittest.TestCase):
     def test_whatever_takes_a_text_refuses_with_no_tree(self):
-        for function in [mirrored, depths_of, parents_of, counts_of, steps_of]:
+        for function in [mirrored, depths_of, parents_of, counts_of, steps_of, triangles_of, place_of]:
             for text in WRONG_TEXTS:
                 with self.subTest(function=function.__name__, text=text):
                     with self.assertRaises(NoTree) as caught:

@@ -59,3 +59,22 @@ def steps(tree):
 
 def mirrored(tree):
     return tuple(mirrored(child) for child in reversed(tree))
+
+
+def points(tree):
+    return 1 + sum(points(child) for child in tree)
+
+
+def triangles_of_row(row, corner):
+    """The triangles of the piece that begins at this corner, from the outermost on."""
+    if not row:
+        return []
+    own = points(row[0])
+    last = corner + sum(points(tree) for tree in row) + 1
+    below = triangles_of_row(row[0], corner)
+    beside = triangles_of_row(row[1:], corner + own)
+    return [(corner, corner + own, last)] + below + beside
+
+
+def triangles(tree):
+    return sorted(triangles_of_row(tree, 0))
